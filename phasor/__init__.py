@@ -1,0 +1,1 @@
+"""Phasor: an optimizing compiler for Clifford+T circuits."""

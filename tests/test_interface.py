@@ -1,0 +1,91 @@
+"""The names and the arguments of the interface."""
+
+import importlib
+import inspect
+import unittest
+
+FUNCTIONS = {
+    "ring": """ring_add(x, y) ring_sub(x, y) ring_neg(x) ring_mul(x, y) ring_conjugate(x)
+        ring_bullet(x) ring_turn(x, steps) ring_times_root(x) ring_over_root(x)
+        ring_abs_square(x) ring_norm(x) ring_divide(x, y)""",
+    "scaled": """lowest(number, exponent) scaled_add(x, y) scaled_sub(x, y)
+        scaled_mul(x, y) scaled_neg(x) scaled_conjugate(x) scaled_turn(x, steps)
+        scaled_abs_square(x) phase_of(x)""",
+    "matrix": """mat_identity(size) mat_mul(a, b) mat_add(a, b) mat_scale(m, x)
+        mat_adjoint(m) mat_kron(a, b) mat_trace(m) is_unitary(m) phase_between(a, b)""",
+    "gates": """gate_fits(gate, width) gate_inverse(gate) steps_of(gate) is_t(gate)
+        rotation_gates(qubit, steps) gate_text(gate) count_t(gates) count_two(gates)
+        collect_turns(gates) used_qubits(gates)""",
+    "macros": "macro_gates(kind, qubits)",
+    "reader": "read_circuit(text) write_circuit(circuit)",
+    "simulate": """basis_state(width, index) apply_gate(state, gate) run(circuit, index)
+        operator(circuit) phase_from(first, second) probability(circuit, start, end)""",
+    "pauli": """weight(mask) pauli_mul(a, b) commutes(a, b) pauli_text(width, pauli)
+        pauli_image(gate, pauli) pauli_gates(pauli)""",
+    "tableau": "tableau_of(width, gates)",
+    "synthesis": "synthesize(tableau) same_clifford(width, gates)",
+}
+
+CLASSES = {
+    ("circuit", "Circuit"): """__init__(self, width, gates=()) add(self, kind, *qubits)
+        then(self, other) inverse(self) mapped(self, places, *, width) count_t(self)
+        __len__(self)""",
+    ("tableau", "Tableau"): """__init__(self, width) image_of_x(self, qubit)
+        image_of_z(self, qubit) apply(self, gate) image(self, pauli) then(self, other)
+        inverse(self) same_as(self, other)""",
+}
+
+
+def heads(text):
+    """The pairs of a name and its arguments."""
+    for head in " ".join(text.split()).replace(") ", ")\n").split("\n"):
+        name, arguments = head.split("(", 1)
+        yield name, "(" + arguments
+
+
+def arguments_of(function):
+    """The arguments as the interface writes them, without annotations."""
+    signature = inspect.signature(function)
+    plain = [
+        parameter.replace(annotation=inspect.Parameter.empty)
+        for parameter in signature.parameters.values()
+    ]
+    return str(inspect.Signature(plain))
+
+
+class InterfaceTest(unittest.TestCase):
+    def test_functions(self):
+        for name, text in FUNCTIONS.items():
+            module = importlib.import_module("phasor." + name)
+            for function, arguments in heads(text):
+                with self.subTest(module=name, function=function):
+                    found = getattr(module, function)
+                    self.assertTrue(inspect.isfunction(found))
+                    self.assertEqual(found.__module__, "phasor." + name)
+                    self.assertEqual(arguments_of(found), arguments)
+
+    def test_classes(self):
+        for (name, class_name), text in CLASSES.items():
+            found = getattr(importlib.import_module("phasor." + name), class_name)
+            self.assertEqual(found.__module__, "phasor." + name)
+            for method, arguments in heads(text):
+                with self.subTest(class_name=class_name, method=method):
+                    self.assertIn(method, vars(found))
+                    self.assertEqual(arguments_of(vars(found)[method]), arguments)
+
+    def test_properties(self):
+        from phasor.circuit import Circuit
+        self.assertIsInstance(vars(Circuit)["gates"], property)
+
+    def test_constants(self):
+        from phasor.gates import KINDS
+        from phasor.macros import MACROS
+        from phasor.reader import MAX_GATES
+        self.assertEqual(
+            KINDS, ("H", "X", "Y", "Z", "S", "SDG", "T", "TDG", "CX", "CZ", "SWAP", "W"))
+        self.assertEqual(MACROS, ("CS", "CSDG", "CCZ", "CCX", "CSWAP"))
+        self.assertEqual(MAX_GATES, 5000)
+
+
+if __name__ == "__main__":
+    unittest.main()
