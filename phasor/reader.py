@@ -21,7 +21,7 @@ def read_circuit(text):
     for number, line in enumerate(lines, start=1):
         if line != "" and not line.startswith("#"):
             reader.read_line(number, line.split(" "))
-    return reader.result(len(lines))
+    return reader.finish(len(lines))
 
 
 def write_circuit(circuit):
@@ -99,7 +99,7 @@ class CircuitReader:
         if not self._obey(line, words):
             raise InvalidText(line)
 
-    def result(self, count):
+    def finish(self, count):
         """Returns the circuit after all lines, whose number is given."""
         if len(self.frames) == 0:
             raise InvalidText(count + 1)
