@@ -1,7 +1,7 @@
 """Circuits (point 9)."""
 
 from phasor.errors import InvalidGate, SizeMismatch
-from phasor.gates import count_t, different_below, gate_fits, gate_inverse
+from phasor.gates import count_t, different_below, gate_fits, gate_inverse, moved_gates
 
 
 class Circuit:
@@ -45,11 +45,7 @@ class Circuit:
             raise SizeMismatch("there is not one place for each qubit")
         if not different_below(places, width):
             raise SizeMismatch("the places are not different places of the width")
-        moved = [
-            (kind, tuple([places[qubit] for qubit in qubits]))
-            for kind, qubits in self._gates
-        ]
-        return Circuit(width, moved)
+        return Circuit(width, moved_gates(self._gates, places))
 
     def count_t(self):
         """Returns the number of T gates."""

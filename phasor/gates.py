@@ -77,6 +77,11 @@ def collect_turns(gates):
     return others + [("W", ())] * turns
 
 
+def moved_gates(gates, places):
+    """Returns the gates with each qubit q replaced by places[q]."""
+    return [(kind, tuple([places[qubit] for qubit in qubits])) for kind, qubits in gates]
+
+
 def used_qubits(gates):
     """Returns the ascending list of the qubits of the gates."""
     return sorted({qubit for gate in gates for qubit in gate[1]})

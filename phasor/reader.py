@@ -2,7 +2,7 @@
 
 from phasor.circuit import Circuit
 from phasor.errors import InvalidText, TooLarge
-from phasor.gates import different_below, gate_fits, gate_text
+from phasor.gates import different_below, gate_fits, gate_text, moved_gates
 from phasor.macros import MACROS, macro_fits, macro_gates
 
 MAX_GATES = 5000
@@ -171,10 +171,7 @@ class CircuitReader:
         inner = self.frames[-1]
         if len(places) != width or not different_below(places, inner.width):
             return False
-        moved = [
-            (kind, tuple([places[qubit] for qubit in qubits])) for kind, qubits in body
-        ]
-        inner.append_gates(moved, 1)
+        inner.append_gates(moved_gates(body, places), 1)
         return True
 
     def _add_macro(self, words):
