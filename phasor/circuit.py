@@ -1,7 +1,7 @@
 """Circuits (point 9)."""
 
 from phasor.errors import InvalidGate, SizeMismatch
-from phasor.gates import count_t, different_below, gate_fits, gate_inverse, moved_gates
+from phasor.gates import count_t, different_below, gate_fits, inverse_list, moved_gates
 
 
 class Circuit:
@@ -34,10 +34,7 @@ class Circuit:
 
     def inverse(self):
         """Returns a new circuit with the inverses of the gates in reverse order."""
-        inverses = []
-        for gate in reversed(self._gates):
-            inverses.extend(gate_inverse(gate))
-        return Circuit(self.width, inverses)
+        return Circuit(self.width, inverse_list(self._gates))
 
     def mapped(self, places, *, width):
         """Returns a new circuit of the given width with each qubit q at places[q]."""

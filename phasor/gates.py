@@ -39,6 +39,14 @@ def gate_inverse(gate):
     return [(INVERSE_KINDS.get(kind, kind), qubits)]
 
 
+def inverse_list(gates):
+    """Returns the inverses of the gates in reverse order."""
+    inverses = []
+    for gate in reversed(gates):
+        inverses.extend(gate_inverse(gate))
+    return inverses
+
+
 def steps_of(gate):
     """Returns the steps of a phase gate, and 0 for any other gate."""
     return PHASE_STEPS.get(gate[0], 0)
@@ -70,9 +78,26 @@ def count_two(gates):
     return len([gate for gate in gates if len(gate[1]) == 2])
 
 
+def cost_of(gates):
+    """Returns the numbers of T gates, of two-qubit gates and of gates other than W."""
+    return (count_t(gates), count_two(gates), len(without_turns(gates)))
+
+
+def cheaper(first, second):
+    """Returns the list with the lower cost, and the first one if they cost the same."""
+    if cost_of(second) < cost_of(first):
+        return second
+    return first
+
+
+def without_turns(gates):
+    """Returns the gates other than W."""
+    return [gate for gate in gates if gate[0] != "W"]
+
+
 def collect_turns(gates):
     """Returns the other gates in their order, and the gates W modulo 8 behind them."""
-    others = [gate for gate in gates if gate[0] != "W"]
+    others = without_turns(gates)
     turns = (len(gates) - len(others)) % 8
     return others + [("W", ())] * turns
 

@@ -21,11 +21,13 @@ IMAGES = {
 
 def weight(mask):
     """Returns the number of bits that are set."""
-    count = 0
-    while mask > 0:
-        mask &= mask - 1
-        count += 1
-    return count
+    digits = f"{mask:b}"
+    return digits.count("1")
+
+
+def bits_of(mask):
+    """Returns the ascending list of the bits that are set."""
+    return [qubit for qubit in range(mask.bit_length()) if bit_of(mask, qubit) == 1]
 
 
 def bit_of(mask, qubit):

@@ -2,13 +2,13 @@
 
 from phasor.circuit import Circuit
 from phasor.errors import NotClifford, TooLarge
-from phasor.gates import gate_inverse, is_t
+from phasor.gates import inverse_list, is_t
 from phasor.matrix import phase_between
 from phasor.pauli import letter_of
 from phasor.simulate import run
 from phasor.tableau import Tableau, tableau_of
 
-MAX_WIDTH = 6
+MAX_CLIFFORD_WIDTH = 6
 
 # For each sign of the images of X and of Z, by phases 0 and 2, the gate that
 # makes both signs positive.
@@ -23,10 +23,7 @@ def synthesize(tableau):
         _undo_x(undoing, qubit)
         _undo_z(undoing, qubit)
         _undo_signs(undoing, qubit)
-    result = []
-    for gate in reversed(undoing.applied):
-        result.extend(gate_inverse(gate))
-    return result
+    return inverse_list(undoing.applied)
 
 
 class Undoing:
@@ -102,7 +99,7 @@ def same_clifford(width, gates):
     for gate in gates:
         if is_t(gate):
             raise NotClifford("there is a T gate")
-    if width > MAX_WIDTH:
+    if width > MAX_CLIFFORD_WIDTH:
         raise TooLarge("the width is more than 6")
     result = synthesize(tableau_of(width, gates))
     # The operators are equal up to phase, so one column tells the phase.

@@ -32,6 +32,15 @@ class Tableau:
         self._x_images = [pauli_image(gate, image) for image in self._x_images]
         self._z_images = [pauli_image(gate, image) for image in self._z_images]
 
+    def apply_before(self, gate):
+        """Puts a Clifford gate that fits in front of the operator."""
+        # The images under the gate itself come first, then those of the operator.
+        x_images = [self.image(pauli_image(gate, (0, 1 << qubit, 0))) for qubit in gate[1]]
+        z_images = [self.image(pauli_image(gate, (0, 0, 1 << qubit))) for qubit in gate[1]]
+        for qubit, x_image, z_image in zip(gate[1], x_images, z_images):
+            self._x_images[qubit] = x_image
+            self._z_images[qubit] = z_image
+
     def image(self, pauli):
         """Returns the image of a Pauli operator on the qubits."""
         phase, x, z = pauli

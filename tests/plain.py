@@ -228,3 +228,135 @@ def inverse_gates(gates):
         else:
             result.append((others.get(kind, kind), qubits))
     return result
+
+
+# The steps of the phase gates, for the sparse way below.
+PLAIN_STEPS = {"Z": 4, "S": 2, "SDG": 6, "T": 1, "TDG": 7}
+
+
+def sparse_turn(x, steps):
+    """x times w^steps: each w moves the parts up, and the last one comes back negated."""
+    for _ in range(steps % 8):
+        x = (-x[3], x[0], x[1], x[2])
+    return x
+
+
+def sparse_step(state, gate):
+    """The state after a gate, for dicts from indexes to numbers that are not 0.
+
+    H leaves out the division by root.
+    """
+    kind, qubits = gate
+    result = {}
+    for index, x in state.items():
+        bits = [(index >> qubit) & 1 for qubit in qubits]
+        if kind == "H":
+            low = index & ~(1 << qubits[0])
+            result[low] = p_add(result.get(low, P_ZERO), x)
+            high = low | (1 << qubits[0])
+            result[high] = p_add(result.get(high, P_ZERO), p_neg(x) if bits[0] else x)
+        elif kind == "X":
+            result[index ^ (1 << qubits[0])] = x
+        elif kind == "Y":
+            result[index ^ (1 << qubits[0])] = sparse_turn(x, 6 if bits[0] else 2)
+        elif kind == "CX":
+            result[index ^ (bits[0] << qubits[1])] = x
+        elif kind == "CZ":
+            result[index] = sparse_turn(x, 4 * bits[0] * bits[1])
+        elif kind == "SWAP":
+            result[with_local(index, qubits, bits[1] + 2 * bits[0])] = x
+        elif kind == "W":
+            result[index] = sparse_turn(x, 1)
+        else:
+            result[index] = sparse_turn(x, PLAIN_STEPS[kind] * bits[0])
+    return {index: x for index, x in result.items() if any(x)}
+
+
+def sparse_columns(width, gates):
+    """The columns of the operator, dicts from indexes to the amplitudes that are not 0."""
+    roots = sum(1 for kind, _ in gates if kind == "H")
+    columns = []
+    for start in range(2 ** width):
+        state = {start: P_ONE}
+        for gate in gates:
+            state = sparse_step(state, gate)
+        columns.append({index: value((x, roots)) for index, x in state.items()})
+    return columns
+
+
+def sparse_turned(columns, steps):
+    return [{k: p_turn(x, steps) for k, x in column.items()} for column in columns]
+
+
+def sparse_phase(first, second):
+    """The k with first = w^k second for lists of sparse columns, or None."""
+    for k in range(8):
+        if first == sparse_turned(second, k):
+            return k
+    return None
+
+
+def t_count(gates):
+    return sum(1 for kind, _ in gates if kind in ("T", "TDG"))
+
+
+def other_than_w(gates):
+    return [gate for gate in gates if gate[0] != "W"]
+
+
+def plain_parity(number):
+    """0 or 1, from the written bits."""
+    return bin(number).count("1") % 2
+
+
+def up_to_phase(columns):
+    """A key that lists of columns share if and only if they are equal up to phase."""
+    first = next(x for column in columns for x in column if any(x))
+    # The eight turned values of a number that is not 0 are different.
+    turns = min(range(8), key=lambda k: sparse_turn(first, k))
+    return tuple(tuple(sparse_turn(x, turns) for x in column) for column in columns)
+
+
+def pauli_step(state, pauli):
+    """The state, a dict as in sparse_step, after a Pauli operator."""
+    phase, x, z = pauli
+    result = {}
+    for index, amplitude in state.items():
+        # Y is i X Z; Z changes the sign of 1.
+        steps = 2 * phase + 2 * bin(x & z).count("1") + 4 * bin(index & z).count("1")
+        result[index ^ x] = sparse_turn(amplitude, steps)
+    return result
+
+
+def rotation_step(state, axis, steps):
+    """The state after twice half (1 + w^s) plus half (1 - w^s) times the axis."""
+    turn = sparse_turn(P_ONE, steps)
+    result = {index: p_mul(p_add(P_ONE, turn), x) for index, x in state.items()}
+    for index, x in pauli_step(state, axis).items():
+        more = p_mul(p_add(P_ONE, p_neg(turn)), x)
+        result[index] = p_add(result.get(index, P_ZERO), more)
+    return {index: x for index, x in result.items() if any(x)}
+
+
+def form_columns(width, rotations, tail):
+    """The sparse columns of the operator of a rotation form."""
+    columns = []
+    roots = 2 * len(rotations) + sum(1 for kind, _ in tail if kind == "H")
+    for start in range(2 ** width):
+        state = {start: P_ONE}
+        for axis, steps in rotations:
+            state = rotation_step(state, axis, steps)
+        for gate in tail:
+            state = sparse_step(state, gate)
+        columns.append({index: value((x, roots)) for index, x in state.items()})
+    return columns
+
+
+def plain_commute(a, b):
+    """Whether two Pauli operators commute: whether they differ on an even number of qubits."""
+    differ = 0
+    for qubit in range(max(part.bit_length() for part in a[1:] + b[1:])):
+        letters = [((p[1] >> qubit) & 1, (p[2] >> qubit) & 1) for p in (a, b)]
+        if (0, 0) not in letters and letters[0] != letters[1]:
+            differ += 1
+    return differ % 2 == 0

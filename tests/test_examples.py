@@ -2,9 +2,13 @@
 
 import unittest
 
+from phasor.folding import fold_phases, phase_groups
+from phasor.linear import linear_of
+from phasor.normalform import form_word, normal_form
 from phasor.pauli import pauli_image, pauli_mul
 from phasor.reader import read_circuit
 from phasor.ring import ring_mul, ring_turn
+from phasor.rotations import to_rotations
 from phasor.scaled import lowest, scaled_add
 
 
@@ -27,6 +31,28 @@ class ExamplesTest(unittest.TestCase):
     def test_pauli(self):
         self.assertEqual(pauli_mul((0, 1, 0), (0, 0, 1)), (3, 1, 1))
         self.assertEqual(pauli_image(("H", (0,)), (0, 1, 1)), (2, 1, 1))
+
+    def test_normalform(self):
+        self.assertEqual(normal_form(["T", "H", "T"]), ("ZX", 1, 0))
+        self.assertEqual(normal_form(["T", "S", "T"]), ("", 5, 0))
+        self.assertEqual(form_word(("ZX", 1, 0)), ["H", "H", "T", "H", "T"])
+
+    def test_linear(self):
+        self.assertEqual(linear_of(3, [("CX", (0, 1)), ("CX", (1, 2))]), [1, 3, 7])
+
+    def test_folding(self):
+        gates = [("T", (0,)), ("X", (0,)), ("T", (0,)), ("H", (0,)), ("T", (0,))]
+        self.assertEqual(phase_groups(1, gates), [(0, 0), (4, 1)])
+        self.assertEqual(
+            fold_phases(1, gates), [("X", (0,)), ("H", (0,)), ("T", (0,)), ("W", ())])
+
+    def test_rotations(self):
+        gates = [("H", (0,)), ("T", (0,)), ("X", (0,)), ("TDG", (0,))]
+        self.assertEqual(
+            to_rotations(1, gates),
+            ([((0, 1, 0), 1), ((0, 1, 0), 1)],
+             [("H", (0,)), ("X", (0,)), ("W", ()), ("W", ()), ("W", ()), ("W", ()), ("W", ()),
+              ("W", ()), ("W", ())]))
 
 
 if __name__ == "__main__":

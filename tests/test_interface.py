@@ -24,6 +24,25 @@ FUNCTIONS = {
         pauli_image(gate, pauli) pauli_gates(pauli)""",
     "tableau": "tableau_of(width, gates)",
     "synthesis": "synthesize(tableau) same_clifford(width, gates)",
+    "bloch": "word_operator(word) bloch(word) bloch_exponent(word)",
+    "normalform": """normal_form(word) form_word(form) matrix_form(matrix)
+        least_t_of_word(word)""",
+    "linear": """parity(mask) linear_of(width, gates) linear_target(rows, index)
+        linear_then(first, second) linear_inverse(rows) linear_gates(rows)""",
+    "polynomial": "polynomial_of(width, gates) same_operator(first, second)",
+    "network": """network_masks(width, gates) parity_network(width, masks)
+        polynomial_gates(polynomial)""",
+    "codes": """code_words(width) nearest_word(width, word) reduce_polynomial(polynomial)
+        least_t_of_polynomial(polynomial)""",
+    "folding": "phase_groups(width, gates) fold_phases(width, gates)",
+    "rotations": """axis_gates(axis, steps) to_rotations(width, gates)
+        from_rotations(rotations, tail)""",
+    "merging": "merge_rotations(width, rotations, tail) merge_t(width, gates)",
+    "layers": """rotation_layers(rotations) diagonal_gates(width, axes)
+        reduce_layers(width, rotations, tail) layer_t(width, gates)""",
+    "cancelling": "gates_commute(first, second) cancel(width, gates)",
+    "windows": """reduce_runs(width, gates) shorten_cliffords(width, gates)
+        reduce_sections(width, gates)""",
 }
 
 CLASSES = {
@@ -33,6 +52,9 @@ CLASSES = {
     ("tableau", "Tableau"): """__init__(self, width) image_of_x(self, qubit)
         image_of_z(self, qubit) apply(self, gate) image(self, pauli) then(self, other)
         inverse(self) same_as(self, other)""",
+    ("polynomial", "PhasePolynomial"): """__init__(self, width) apply(self, gate)
+        add_term(self, mask, steps) value(self, index) target(self, index)
+        odd_count(self)""",
 }
 
 
@@ -75,16 +97,22 @@ class InterfaceTest(unittest.TestCase):
 
     def test_properties(self):
         from phasor.circuit import Circuit
+        from phasor.polynomial import PhasePolynomial
         self.assertIsInstance(vars(Circuit)["gates"], property)
+        self.assertIsInstance(vars(PhasePolynomial)["terms"], property)
+        self.assertIsInstance(vars(PhasePolynomial)["rows"], property)
 
     def test_constants(self):
         from phasor.gates import KINDS
         from phasor.macros import MACROS
+        from phasor.normalform import CLIFFORD_WORDS
         from phasor.reader import MAX_GATES
         self.assertEqual(
             KINDS, ("H", "X", "Y", "Z", "S", "SDG", "T", "TDG", "CX", "CZ", "SWAP", "W"))
         self.assertEqual(MACROS, ("CS", "CSDG", "CCZ", "CCX", "CSWAP"))
         self.assertEqual(MAX_GATES, 5000)
+        self.assertIs(type(CLIFFORD_WORDS), tuple)
+        self.assertEqual(CLIFFORD_WORDS[:5], ("", "H", "S", "HS", "SH"))
 
 
 if __name__ == "__main__":

@@ -1,0 +1,85 @@
+"""What several tests check of lists of gates, of rotation forms and of errors."""
+
+import unittest
+
+from tests.plain import (
+    ALL_KINDS, CLIFFORD_KINDS, SIZES, other_than_w, plain_commute, sparse_columns, t_count,
+)
+
+W = ("W", ())
+
+
+class GatesCase(unittest.TestCase):
+    def assert_error(self, error, function, *arguments):
+        """The call raises an error of exactly this class."""
+        with self.assertRaises(error) as caught:
+            function(*arguments)
+        self.assertIs(type(caught.exception), error)
+
+    def assert_gates(self, width, gates, kinds=ALL_KINDS):
+        """A list of gates of these kinds that fit the width."""
+        self.assertIs(type(gates), list)
+        for gate in gates:
+            self.assertIs(type(gate), tuple)
+            kind, qubits = gate
+            self.assertIn(kind, kinds)
+            self.assertIs(type(qubits), tuple)
+            self.assertEqual(len(qubits), SIZES.get(kind, 1))
+            self.assertEqual(len(set(qubits)), len(qubits))
+            self.assertTrue(all(0 <= qubit < width for qubit in qubits))
+
+    def assert_same(self, width, result, gates):
+        """The lists have the same operator, including the phase."""
+        self.assertEqual(sparse_columns(width, result), sparse_columns(width, gates))
+
+    def assert_turns_at_end(self, gates):
+        """At most seven gates W, which stand at the end."""
+        others = other_than_w(gates)
+        self.assertLessEqual(len(gates) - len(others), 7)
+        self.assertEqual(gates, others + [W] * (len(gates) - len(others)))
+
+    def assert_pass(self, function, width, gates):
+        """What holds for all passes. Returns the result."""
+        given = list(gates)
+        result = function(width, gates)
+        self.assertEqual(gates, given)
+        self.assertIsNot(result, gates)
+        self.assert_gates(width, result)
+        self.assert_turns_at_end(result)
+        self.assert_same(width, result, gates)
+        self.assertLessEqual(t_count(result), t_count(gates))
+        # The list is new each time.
+        result.append("more")
+        again = function(width, gates)
+        self.assertEqual(again + ["more"], result)
+        self.assertEqual(gates, given)
+        return again
+
+    def assert_unchanged_list(self, function, width, gates):
+        """The pass returns the same gates in a new list."""
+        self.assertEqual(self.assert_pass(function, width, gates), gates)
+
+    def assert_form(self, width, form):
+        """A rotation form: a tuple of two lists, as point 40 says."""
+        self.assertIs(type(form), tuple)
+        rotations, tail = form
+        self.assertIs(type(rotations), list)
+        for rotation in rotations:
+            self.assertIs(type(rotation), tuple)
+            axis, steps = rotation
+            self.assertIs(type(axis), tuple)
+            phase, x, z = axis
+            self.assertEqual(phase, 0)
+            self.assertIn(x, range(2 ** width))
+            self.assertIn(z, range(2 ** width))
+            self.assertNotEqual((x, z), (0, 0))
+            self.assertIn(steps, (1, 7))
+        self.assert_gates(width, tail, CLIFFORD_KINDS)
+
+    def assert_separated(self, rotations):
+        """Two rotations with the same axis have one between that does not commute with it."""
+        for j, (axis, _) in enumerate(rotations):
+            for other, _ in reversed(rotations[:j]):
+                if not plain_commute(other, axis):
+                    break
+                self.assertNotEqual(other, axis)
