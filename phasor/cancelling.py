@@ -31,19 +31,16 @@ def _basis(gate, qubit):
 def cancel(width, gates):
     """Returns a list with the same operator in which no pair cancels."""
     kept = []
-    turns = []
     for gate in gates:
-        if gate[0] == "W":
-            turns.append(gate)
+        at = _partner(kept, gate)
+        if at is None:
+            kept.append(gate)
         else:
-            at = _partner(kept, gate)
-            if at is None:
-                kept.append(gate)
-            else:
-                # What is removed commutes with all behind it, so it separated
-                # no other pair, and no further pair cancels.
-                del kept[at]
-    return collect_turns(kept + turns)
+            # What is removed commutes with all behind it, so it separated no
+            # other pair, and no further pair cancels.
+            del kept[at]
+    # No single gate is the inverse of W, so each W was kept.
+    return collect_turns(kept)
 
 
 def _partner(gates, gate):

@@ -3,7 +3,7 @@
 from phasor.codes import MAX_CODE_WIDTH, reduce_polynomial
 from phasor.merging import merge_rotations
 from phasor.moving import MovedGates
-from phasor.pauli import bit_of, bits_of, commutes, pauli_image
+from phasor.pauli import bits_of, commutes, letter_of, pauli_image
 from phasor.polynomial import PhasePolynomial
 from phasor.rotations import from_rotations, signed_rotation, to_rotations
 from phasor.tableau import tableau_of
@@ -48,17 +48,15 @@ def _image_under(gates, pauli):
 
 
 def _gates_without_x(axis):
-    """Returns gates under which an axis with X or Y becomes Z on one qubit, up to its sign.
+    """Returns gates under which an axis has no X and no Y, and which keep those without.
 
-    All gates before the last one map products of Z to such products. The axis
-    is X on the qubit then, so the products that commute with it have no Z
-    there, and H does not change them.
+    All gates before H map products of Z to such products. The axis is X on the
+    qubit then, and I or Z elsewhere, so the products that commute with it have
+    no Z on the qubit, and H does not change them.
     """
     target, *others = bits_of(axis[1])
     gates = [("CX", (target, qubit)) for qubit in others]
-    z = _image_under(gates, axis)[2]
-    gates.extend([("CZ", (target, qubit)) for qubit in bits_of(z) if qubit != target])
-    if bit_of(z, target) == 1:
+    if letter_of(_image_under(gates, axis), target) == "Y":
         gates.append(("S", (target,)))
     return gates + [("H", (target,))]
 

@@ -3,7 +3,7 @@
 from phasor.bloch import PAULI_KINDS, bloch_exponent, bloch_of, greatest_exponent, word_operator
 from phasor.errors import NotUnitary, SizeMismatch
 from phasor.matrix import is_unitary, mat_mul, phase_between
-from phasor.scaled import lowest, scaled_add, scaled_sub
+from phasor.scaled import scaled_add, scaled_over_root, scaled_sub
 
 CLIFFORD_WORDS = (
     "", "H", "S", "HS", "SH", "SS", "HSH", "HSS", "SHS", "SSH", "SSS", "HSHS",
@@ -63,13 +63,9 @@ def _without_axis(rows, axis):
     second = (axis + 2) % 3
     result = list(rows)
     pairs = list(zip(rows[first], rows[second]))
-    result[first] = tuple([_over_root(scaled_add(x, y)) for x, y in pairs])
-    result[second] = tuple([_over_root(scaled_sub(y, x)) for x, y in pairs])
+    result[first] = tuple([scaled_over_root(scaled_add(x, y)) for x, y in pairs])
+    result[second] = tuple([scaled_over_root(scaled_sub(y, x)) for x, y in pairs])
     return result
-
-
-def _over_root(x):
-    return lowest(x[0], x[1] + 1)
 
 
 def _clifford_of(matrix):

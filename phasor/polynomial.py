@@ -111,8 +111,7 @@ class PhasePolynomial:
         result.turns = self.turns
         result.flips = self.flips
         result._rows = self.rows
-        for mask, steps in self.terms:
-            result.add_term(mask, steps)
+        result._steps = {mask: steps for mask, steps in self.terms}
         return result
 
 

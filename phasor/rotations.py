@@ -32,12 +32,12 @@ def axis_gates(axis, steps):
 def signed_rotation(image, steps):
     """Returns (rotation, turns) for the rotation of an axis or of the negative of one.
 
-    The rotation is a pair (axis, steps), with steps in 0..7.
+    The rotation is a pair (axis, steps). The steps are in 1..7, before and after.
     """
     phase, x, z = image
     if phase == 0:
-        return (((0, x, z), steps % 8), 0)
-    return (((0, x, z), (-steps) % 8), steps)
+        return (((0, x, z), steps), 0)
+    return (((0, x, z), 8 - steps), steps)
 
 
 def to_rotations(width, gates):

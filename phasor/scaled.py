@@ -95,6 +95,11 @@ def scaled_turn(x, steps):
     return (ring_turn(x[0], steps), x[1])
 
 
+def scaled_over_root(x):
+    """Returns x divided by root."""
+    return lowest(x[0], x[1] + 1)
+
+
 def scaled_abs_square(x):
     """Returns x times its conjugate."""
     return scaled_mul(x, scaled_conjugate(x))

@@ -3,7 +3,15 @@
 from phasor.errors import SizeMismatch
 from phasor.gates import steps_of
 from phasor.matrix import phase_between
-from phasor.scaled import ONE, ZERO, lowest, scaled_abs_square, scaled_add, scaled_sub, scaled_turn
+from phasor.scaled import (
+    ONE,
+    ZERO,
+    scaled_abs_square,
+    scaled_add,
+    scaled_over_root,
+    scaled_sub,
+    scaled_turn,
+)
 
 
 def basis_state(width, index):
@@ -39,13 +47,9 @@ def _mix(state, bit):
     for low in range(len(state)):
         high = low | bit
         if low != high and (state[low] != ZERO or state[high] != ZERO):
-            result[low] = _over_root(scaled_add(state[low], state[high]))
-            result[high] = _over_root(scaled_sub(state[low], state[high]))
+            result[low] = scaled_over_root(scaled_add(state[low], state[high]))
+            result[high] = scaled_over_root(scaled_sub(state[low], state[high]))
     return result
-
-
-def _over_root(x):
-    return lowest(x[0], x[1] + 1)
 
 
 def _invert(state, control, target):

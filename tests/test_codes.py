@@ -222,6 +222,10 @@ class ReduceTest(PolynomialCase):
             self.assert_error(TooLarge, reduce_polynomial, polynomial)
             self.assert_error(TooLarge, least_t_of_polynomial, polynomial)
             self.assertEqual(state_of(polynomial), before)
+        wide = PhasePolynomial(64)
+        wide.add_term(2 ** 63 + 1, 1)
+        self.assert_error(TooLarge, reduce_polynomial, wide)
+        self.assert_error(TooLarge, least_t_of_polynomial, wide)
 
 
 if __name__ == "__main__":

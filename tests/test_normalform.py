@@ -274,6 +274,8 @@ class MatrixFormTest(FormCase):
         for matrix in (
             ((ONE,),), ((ONE, ZERO),), ((ONE,), (ZERO,)), ((ONE, ZERO, ZERO), (ZERO, ONE, ZERO)),
             (zero_row, zero_row, zero_row), ((ZERO, ZERO, ZERO),) * 2,
+            ((ZERO,),), ((ZERO, ZERO, ZERO),) * 3, ((ONE, ONE, ONE, ONE),) * 4,
+            tuple(tuple(ONE if i == j else ZERO for j in range(3)) for i in range(3)),
             tuple(tuple(ONE if i == j else ZERO for j in range(4)) for i in range(4)),
         ):
             self.assert_error(SizeMismatch, matrix_form, matrix)

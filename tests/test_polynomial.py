@@ -269,6 +269,15 @@ class SameOperatorTest(PolynomialCase):
                 second.add_term(mask, steps)
             self.assertIs(self.assert_compared(PhasePolynomial(width), second), wanted)
 
+    def test_three_qubits_at_once(self):
+        """CCZ differs from the identity at one index only."""
+        for width, shift in ((3, 0), (5, 1)):
+            polynomial = PhasePolynomial(width)
+            for mask, steps in ((1, 1), (2, 1), (4, 1), (3, 7), (5, 7), (6, 7), (7, 1)):
+                polynomial.add_term(mask << shift, steps)
+            self.assertFalse(self.assert_compared(polynomial, PhasePolynomial(width)))
+            self.assertEqual([polynomial.value(k << shift) for k in range(8)], [0] * 7 + [4])
+
     def test_two_gates_cz(self):
         twice = polynomial_of(2, [("CZ", (0, 1)), ("CZ", (1, 0))])
         self.assertEqual(twice.terms, [(1, 4), (2, 4), (3, 4)])

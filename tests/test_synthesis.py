@@ -5,33 +5,20 @@ import unittest
 from phasor.errors import NotClifford, TooLarge
 from phasor.synthesis import same_clifford, synthesize
 from phasor.tableau import Tableau, tableau_of
+from tests.cases import W, GatesCase
 from tests.plain import (
-    CLIFFORD_KINDS, SIZES, all_gates, drawn_gates, inverse_gates, plain_columns, plain_phase,
-    plain_run,
+    CLIFFORD_KINDS, all_gates, drawn_gates, inverse_gates, plain_columns, plain_phase, plain_run,
 )
 from tests.test_tableau import images_of
 
-W = ("W", ())
 
-
-class SynthesisCase(unittest.TestCase):
-    def assert_clifford(self, width, gates):
-        self.assertIs(type(gates), list)
-        for gate in gates:
-            self.assertIs(type(gate), tuple)
-            kind, qubits = gate
-            self.assertIn(kind, CLIFFORD_KINDS)
-            self.assertIs(type(qubits), tuple)
-            self.assertEqual(len(qubits), SIZES.get(kind, 1))
-            self.assertEqual(len(set(qubits)), len(qubits))
-            self.assertTrue(all(0 <= qubit < width for qubit in qubits))
-
+class SynthesisCase(GatesCase):
     def assert_synthesized(self, width, gates):
         tableau = tableau_of(width, gates)
         before = images_of(tableau)
         result = synthesize(tableau)
         self.assertEqual(images_of(tableau), before)
-        self.assert_clifford(width, result)
+        self.assert_gates(width, result, CLIFFORD_KINDS)
         self.assertNotIn(W, result)
         self.assertLessEqual(len(result), 4 * width * width + 10 * width)
         return result
@@ -97,7 +84,7 @@ class SameCliffordTest(SynthesisCase):
         given = list(gates)
         result = same_clifford(width, gates)
         self.assertEqual(gates, given)
-        self.assert_clifford(width, result)
+        self.assert_gates(width, result, CLIFFORD_KINDS)
         others = [gate for gate in result if gate != W]
         self.assertLessEqual(len(others), 4 * width * width + 10 * width)
         self.assertEqual(result, others + [W] * (len(result) - len(others)))

@@ -172,6 +172,17 @@ class StretchesTest(GatesCase):
                 self.assert_short(width, gates)
                 self.assert_short(width, gates + [("T", (0,))] + more + [("TDG", (0,)), W] + gates)
 
+    def test_long_stretches_with_few_two_qubit_gates(self):
+        """Fewer two-qubit gates do not excuse a stretch that is too long."""
+        for width, kinds in ((2, ("CX",)), (3, ("CX", "CZ")), (4, ("CX", "SWAP"))):
+            limit = 4 * width * width + 10 * width
+            for seed in range(8):
+                gates = []
+                for k in range(3):
+                    gates += drawn_gates(10 * seed + k, width, 1, kinds)
+                    gates += drawn_gates(10 * seed + k, width, limit // 3 + 1, ("H", "S", "X"))
+                self.assert_short(width, gates)
+
     def test_long_stretches_of_four_qubits(self):
         gates = drawn_gates(3, 4, 150, CLIFFORD_KINDS)
         self.assert_short(4, gates + [("T", (3,))] + gates)
