@@ -3,10 +3,16 @@
 import unittest
 
 from tests.plain import (
-    ALL_KINDS, CLIFFORD_KINDS, SIZES, other_than_w, plain_commute, sparse_columns, t_count,
+    ALL_KINDS, CLIFFORD_KINDS, SIZES, other_than_w, plain_commute, sparse_columns, sparse_turned,
+    t_count,
 )
 
 W = ("W", ())
+
+
+def relabeled(order, index):
+    """The index in which the bit of each qubit stands at its place of an order."""
+    return sum(((index >> qubit) & 1) << place for qubit, place in enumerate(order))
 
 
 class GatesCase(unittest.TestCase):
@@ -31,6 +37,30 @@ class GatesCase(unittest.TestCase):
     def assert_same(self, width, result, gates):
         """The lists have the same operator, including the phase."""
         self.assertEqual(sparse_columns(width, result), sparse_columns(width, gates))
+
+    def assert_carried(self, order, end, placed, gates, turns=0):
+        """The gates on places do what the gates on qubits do, divided by w^turns.
+
+        This is held for every value of every qubit, at the places of the orders.
+        """
+        given = sparse_turned(sparse_columns(len(order), gates), -turns)
+        found = sparse_columns(len(order), placed)
+        for index, column in enumerate(given):
+            wanted = {relabeled(end, k): x for k, x in column.items()}
+            self.assertEqual(found[relabeled(order, index)], wanted)
+
+    def assert_swaps(self, device, order, steps):
+        """Swaps of linked places. Returns the order after them."""
+        self.assertIs(type(steps), list)
+        current = list(order)
+        for step in steps:
+            self.assertIs(type(step), tuple)
+            word, a, b = step
+            self.assertEqual(word, "swap")
+            self.assertLess(a, b)
+            self.assertTrue((a, b) in device.couplings or (b, a) in device.couplings)
+            current = [{a: b, b: a}.get(place, place) for place in current]
+        return current
 
     def assert_turns_at_end(self, gates):
         """At most seven gates W, which stand at the end."""

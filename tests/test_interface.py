@@ -43,6 +43,14 @@ FUNCTIONS = {
     "cancelling": "gates_commute(first, second) cancel(width, gates)",
     "windows": """reduce_runs(width, gates) shorten_cliffords(width, gates)
         reduce_sections(width, gates)""",
+    "passes": """run_pass(name, circuit) cost(circuit)
+        optimize(circuit, *, passes=PASSES, rounds=2)""",
+    "device": "line_device(places) grid_device(rows, columns)",
+    "layout": "first_order(device, circuit)",
+    "routing": """route(device, circuit, order) least_route(device, circuit, order)
+        end_order(order, steps) placed_gates(circuit, order, steps)""",
+    "lowering": "lower(device, gates)",
+    "restoring": "restore_steps(device, order, goal)",
 }
 
 CLASSES = {
@@ -55,14 +63,27 @@ CLASSES = {
     ("polynomial", "PhasePolynomial"): """__init__(self, width) apply(self, gate)
         add_term(self, mask, steps) value(self, index) target(self, index)
         odd_count(self)""",
+    ("device", "Device"): """__init__(self, places, couplings) linked(self, a, b)
+        directed(self, a, b) neighbors(self, place) distance(self, a, b) path(self, a, b)""",
+    ("layout", "Layout"): """__init__(self, order) place_of(self, qubit)
+        holder_of(self, place) swap(self, a, b)""",
 }
+
+PROPERTIES = {
+    ("circuit", "Circuit"): ("gates",),
+    ("polynomial", "PhasePolynomial"): ("terms", "rows"),
+    ("device", "Device"): ("couplings",),
+    ("layout", "Layout"): ("order",),
+}
+
+PASSES = ("cancel", "fold", "runs", "rotations", "layers", "sections", "cliffords")
 
 
 def heads(text):
     """The pairs of a name and its arguments."""
     for head in " ".join(text.split()).replace(") ", ")\n").split("\n"):
         name, arguments = head.split("(", 1)
-        yield name, "(" + arguments
+        yield name, "(" + arguments.replace("PASSES", repr(PASSES))
 
 
 def arguments_of(function):
@@ -96,17 +117,19 @@ class InterfaceTest(unittest.TestCase):
                     self.assertEqual(arguments_of(vars(found)[method]), arguments)
 
     def test_properties(self):
-        from phasor.circuit import Circuit
-        from phasor.polynomial import PhasePolynomial
-        self.assertIsInstance(vars(Circuit)["gates"], property)
-        self.assertIsInstance(vars(PhasePolynomial)["terms"], property)
-        self.assertIsInstance(vars(PhasePolynomial)["rows"], property)
+        for (name, class_name), names in PROPERTIES.items():
+            found = getattr(importlib.import_module("phasor." + name), class_name)
+            for word in names:
+                with self.subTest(class_name=class_name, word=word):
+                    self.assertIsInstance(vars(found)[word], property)
 
     def test_constants(self):
         from phasor.gates import KINDS
         from phasor.macros import MACROS
         from phasor.normalform import CLIFFORD_WORDS
+        from phasor.passes import PASSES as found
         from phasor.reader import MAX_GATES
+        self.assertEqual(found, PASSES)
         self.assertEqual(
             KINDS, ("H", "X", "Y", "Z", "S", "SDG", "T", "TDG", "CX", "CZ", "SWAP", "W"))
         self.assertEqual(MACROS, ("CS", "CSDG", "CCZ", "CCX", "CSWAP"))
