@@ -62,7 +62,7 @@ def _consists_of(word, characters):
     return True
 
 
-def _numbers_of(words):
+def numbers_of(words):
     """Returns the tuple of the values of the words, -1 for those that are not numbers."""
     return tuple([number_of(word) for word in words])
 
@@ -166,7 +166,7 @@ class CircuitReader:
     def _call(self, words):
         if len(words) < 2 or words[1] not in self.defined:
             return False
-        places = _numbers_of(words[2:])
+        places = numbers_of(words[2:])
         width, body = self.defined[words[1]]
         inner = self.frames[-1]
         if len(places) != width or not different_below(places, inner.width):
@@ -176,7 +176,7 @@ class CircuitReader:
 
     def _add_macro(self, words):
         inner = self.frames[-1]
-        qubits = _numbers_of(words[1:])
+        qubits = numbers_of(words[1:])
         if not macro_fits(words[0], qubits) or not different_below(qubits, inner.width):
             return False
         inner.append_gates(macro_gates(words[0], qubits), 1)
@@ -184,7 +184,7 @@ class CircuitReader:
 
     def _add_gate(self, words):
         inner = self.frames[-1]
-        gate = (words[0], _numbers_of(words[1:]))
+        gate = (words[0], numbers_of(words[1:]))
         if not gate_fits(gate, inner.width):
             return False
         inner.append_gates([gate], 1)

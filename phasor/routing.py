@@ -39,45 +39,45 @@ def least_route(device, circuit, order):
     origins = []
     for _, qubits in circuit.gates:
         if len(qubits) == 2:
-            found, came_from = _spread(links, counts)
-            counts = _counts_if_linked(device, found, qubits)
+            counts, came_from = _brought_together(links, counts, qubits)
             origins.append(came_from)
     last = min(sorted(counts), key=lambda end: counts[end])
     return _steps_to(last, circuit.gates, origins)
 
 
-def _spread(links, counts):
-    """Returns the least number of swaps to all orders, and how orders were reached by a swap.
+def _brought_together(links, counts, qubits):
+    """Returns the least number of swaps to orders in which two qubits are linked.
 
-    The latter is a dict of tuples of the swap and the order before it.
+    The second result tells for orders that a swap led to the swap and the order before.
     """
-    found = {order: counts[order] for order in counts}
+    reached = {}
     came_from = {}
+    least = {order: counts[order] for order in counts}
     queue = [(counts[order], order) for order in counts]
     heapify(queue)
     while len(queue) > 0:
         count, order = heappop(queue)
-        # Entries that were replaced by better ones are passed over.
-        if count == found[order]:
-            for a, b in links:
-                other = _swapped(order, a, b)
-                if found.get(other, count + 2) > count + 1:
-                    found[other] = count + 1
-                    came_from[other] = (("swap", a, b), order)
-                    heappush(queue, (count + 1, other))
-    return (found, came_from)
+        places = [order[qubit] for qubit in qubits]
+        if count > least[order]:
+            # A better way to this order was found meanwhile.
+            continue
+        if (min(places), max(places)) in links:
+            # Further swaps can as well wait until the gate is executed.
+            reached[order] = count
+            continue
+        for a, b in links:
+            other = _swapped(order, a, b)
+            if least.get(other, count + 2) > count + 1:
+                least[other] = count + 1
+                came_from[other] = (("swap", a, b), order)
+                heappush(queue, (count + 1, other))
+    return (reached, came_from)
 
 
 def _swapped(order, a, b):
     """Returns the order after the qubits at two places are exchanged."""
     exchanged = {a: b, b: a}
     return tuple([exchanged.get(place, place) for place in order])
-
-
-def _counts_if_linked(device, counts, qubits):
-    """Returns the part of the counts for the orders in which two qubits are linked."""
-    a, b = qubits
-    return {order: counts[order] for order in counts if device.linked(order[a], order[b])}
 
 
 def _steps_to(last, gates, origins):

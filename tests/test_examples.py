@@ -2,10 +2,14 @@
 
 import unittest
 
+from phasor.circuit import Circuit
+from phasor.compiler import Compiler
+from phasor.device import line_device
 from phasor.folding import fold_phases, phase_groups
 from phasor.linear import linear_of
 from phasor.normalform import form_word, normal_form
 from phasor.pauli import pauli_image, pauli_mul
+from phasor.program import write_program
 from phasor.reader import read_circuit
 from phasor.ring import ring_mul, ring_turn
 from phasor.rotations import to_rotations
@@ -53,6 +57,12 @@ class ExamplesTest(unittest.TestCase):
             ([((0, 1, 0), 1), ((0, 1, 0), 1)],
              [("H", (0,)), ("X", (0,)), ("W", ()), ("W", ()), ("W", ()), ("W", ()), ("W", ()),
               ("W", ()), ("W", ())]))
+
+    def test_machine(self):
+        compiler = Compiler(line_device(2))
+        result = compiler.run(Circuit(2, [("CX", (0, 1))]), start=[0, 1])
+        self.assertEqual(
+            write_program(result), "places 2\nstart 0 1\nend 0 1\nturns 0\nstep\nCX 0 1\n")
 
 
 if __name__ == "__main__":

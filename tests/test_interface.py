@@ -51,6 +51,11 @@ FUNCTIONS = {
         end_order(order, steps) placed_gates(circuit, order, steps)""",
     "lowering": "lower(device, gates)",
     "restoring": "restore_steps(device, order, goal)",
+    "timing": "time_steps(gates) depth(gates)",
+    "pathsum": "path_sum_of(circuit)",
+    "audit": "audit(first, second)",
+    "compiler": "audit_compiled(compiled, circuit)",
+    "program": "write_program(compiled) read_program(text, device)",
 }
 
 CLASSES = {
@@ -67,6 +72,14 @@ CLASSES = {
         directed(self, a, b) neighbors(self, place) distance(self, a, b) path(self, a, b)""",
     ("layout", "Layout"): """__init__(self, order) place_of(self, qubit)
         holder_of(self, place) swap(self, a, b)""",
+    ("pathsum", "PathSum"): """__init__(self, width) apply(self, gate)
+        amplitude(self, start, end) diagonal(self)""",
+    ("closedsum", "ClosedSum"): "value(self, index) reduce(self) constant(self)",
+    ("compiler", "Compiled"): "report(self)",
+    ("compiler", "Compiler"): """__init__(self, device, *, passes=PASSES, rounds=2,
+        search=False, restore=False) run(self, circuit, *, start=None) run_text(self, text)""",
+    ("machine", "Machine"): """__init__(self, device) load(self, program, values) step(self)
+        run(self) amplitude(self, values)""",
 }
 
 PROPERTIES = {
@@ -74,6 +87,7 @@ PROPERTIES = {
     ("polynomial", "PhasePolynomial"): ("terms", "rows"),
     ("device", "Device"): ("couplings",),
     ("layout", "Layout"): ("order",),
+    ("program", "Program"): ("steps",),
 }
 
 PASSES = ("cancel", "fold", "runs", "rotations", "layers", "sections", "cliffords")
