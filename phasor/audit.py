@@ -5,7 +5,9 @@ from phasor.pathsum import path_sum_of
 
 def audit(first, second):
     """Returns ("equal", k), ("unequal", None) or ("open", None) for two circuits."""
-    closed = path_sum_of(first.then(second.inverse())).diagonal()
+    both = path_sum_of(first.then(second.inverse()))
+    count = len([kind for kind, _ in first.gates if kind == "H"])
+    closed = both.diagonal_of_parts(count)
     closed.reduce()
     turns = closed.constant()
     if turns is not None:

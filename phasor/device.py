@@ -88,7 +88,6 @@ def _neighbor_lists(places, couplings):
 
 def line_device(places):
     """Returns the device with the couplings (k, k + 1)."""
-    _check_positive(places)
     return Device(places, [(k, k + 1) for k in range(places - 1)])
 
 

@@ -6,6 +6,7 @@ from phasor.folding import Values
 from phasor.gates import gate_fits, steps_of
 from phasor.linear import parity
 from phasor.products import Products, sum_of_turns
+from phasor.reducing import InnerSum
 
 
 class PathSum:
@@ -79,10 +80,15 @@ class PathSum:
 
     def diagonal(self):
         """Returns the diagonal, a new closed sum."""
-        result = ClosedSum(self._inner_variables(), self._products.clone(), self.inner)
+        return self.diagonal_of_parts(self.inner // 2)
+
+    def diagonal_of_parts(self, count):
+        """Returns the diagonal of a list whose first part has so many gates H."""
+        variables = self._inner_variables()
+        result = InnerSum(variables, self._products.clone(), self.inner)
         numbers = self._outputs.numbers
         result.solve([numbers[qubit] ^ (2 << qubit) for qubit in range(self.width)])
-        return result
+        return ClosedSum(result, 2 << (self.width + count))
 
 
 def path_sum_of(circuit):

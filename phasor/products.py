@@ -81,7 +81,8 @@ class Products:
 
     def substitute(self, variable, number):
         """Replaces a variable by the exclusive or that a number without it stands for."""
-        for product in self.around(variable):
+        around = self.around(variable)
+        for product in around:
             steps = self.take_steps(product)
             self.add_parity(product - variable, number, steps)
 

@@ -62,6 +62,16 @@ class GatesCase(unittest.TestCase):
             current = [{a: b, b: a}.get(place, place) for place in current]
         return current
 
+    def assert_native(self, device, gates):
+        """One-qubit gates on the places of a device, and CX along its couplings."""
+        self.assert_gates(device.places, gates)
+        for kind, qubits in gates:
+            if len(qubits) == 1:
+                self.assertIn(kind, ALL_KINDS)
+            else:
+                self.assertEqual(kind, "CX")
+                self.assertIn(qubits, device.couplings)
+
     def assert_turns_at_end(self, gates):
         """At most seven gates W, which stand at the end."""
         others = other_than_w(gates)

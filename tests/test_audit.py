@@ -98,6 +98,16 @@ class EqualTest(AuditCase):
                 gates = drawn_gates(seed, width, 20 * width)
                 self.assert_equal_up_to(width, gates, list(gates))
 
+    def test_the_same_list_with_many_t_gates(self):
+        """Such lists are found to be equal, however many T gates they have."""
+        for kinds in (("H", "T", "CX"), ("H", "S", "T", "CX", "CX", "CZ")):
+            for width in (3, 4, 5):
+                for seed in range(3):
+                    gates = drawn_gates(seed, width, 30 * width, kinds)
+                    one, other = Circuit(width, gates + [W] * seed), Circuit(width, gates)
+                    self.assertEqual(audit(one, other), ("equal", seed))
+                    self.assertEqual(audit(other, one), ("equal", -seed % 8))
+
     def test_results_of_passes(self):
         """Each pass gives an equal circuit: the audit says so, or it is open."""
         told = 0

@@ -52,8 +52,8 @@ def plain_inner(width, gates):
 
 def rule_applies(closed):
     """Whether one of the rules of point 68 applies, read off the terms of the sum."""
-    steps = closed._products._steps
-    for y in closed._variables:
+    steps = closed._sum.products._steps
+    for y in closed._sum.variables:
         around = [product for product in steps if product & y]
         pairs = [product for product in around if product != y]
         plain = all(bin(p).count("1") == 2 and steps[p] == 4 for p in pairs)

@@ -21,8 +21,6 @@ from tests.test_layout import NO_ORDERS
 from tests.test_routing import least_swaps
 from tests.test_timing import longest_chain
 
-ONE_QUBIT = ("H", "X", "Y", "Z", "S", "SDG", "T", "TDG")
-
 
 def steps_of_compiling(device, circuit, start, options):
     """The steps of point 70, one after the other: the gates, the orders, swaps and turns."""
@@ -48,13 +46,7 @@ class CompilerCase(GatesCase):
         self.assertIs(type(result.circuit), Circuit)
         self.assertEqual(result.circuit.width, device.places)
         gates = result.circuit.gates
-        self.assert_gates(device.places, gates)
-        for kind, places in gates:
-            if len(places) == 1:
-                self.assertIn(kind, ONE_QUBIT)
-            else:
-                self.assertEqual(kind, "CX")
-                self.assertIn(places, device.couplings)
+        self.assert_native(device, gates)
         for order in (result.start, result.end):
             self.assertIs(type(order), list)
             self.assertEqual(sorted(order), list(range(device.places)))

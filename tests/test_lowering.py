@@ -24,21 +24,12 @@ def linked_gates(device, gates):
 
 
 class LowerTest(GatesCase):
-    def assert_native(self, device, gates):
-        for kind, qubits in gates:
-            if len(qubits) == 1:
-                self.assertIn(kind, ONE_QUBIT)
-            else:
-                self.assertEqual(kind, "CX")
-                self.assertIn(qubits, device.couplings)
-
     def assert_lowered(self, device, gates):
         given = list(gates)
         result = lower(device, gates)
         self.assertEqual(gates, given)
         self.assertIs(type(result), tuple)
         native, turns = result
-        self.assert_gates(device.places, native)
         self.assert_native(device, native)
         self.assertIs(type(turns), int)
         self.assertIn(turns, range(8))

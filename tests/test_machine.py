@@ -137,7 +137,7 @@ class StepTest(MachineCase):
         machine.load(program, values)
         values[0] = 0
         program.start[0] = 7
-        program.end.append(9)
+        program.end.reverse()
         program.turns = 5
         self.assert_steps(machine, again, 1, 2)
 
